@@ -1,0 +1,1 @@
+"""Presses and moulds: green tyres wait, and are cured in presses."""
