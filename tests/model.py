@@ -1,5 +1,10 @@
 """The document's words taken one by one, a minute at a time, to compare the program with."""
 
+import copy
+import itertools
+
+STATES = ("waits", "press", "cured", "scrapped")
+
 
 class Refused(Exception):
     pass
@@ -45,8 +50,9 @@ class Model:
         return self.now - tyre["came"] > self.types[tyre["type"]][1]
 
     def put(self, p, g):
-        self.presses[p].update(state="cures", left=self.types[self.tyres[g]["type"]][0], tyre=g)
-        self.tyres[g]["state"] = "press"
+        press = self.presses[p]
+        press.update(state="cures", left=self.types[self.tyres[g]["type"]][0], tyre=g)
+        self.tyres[g].update(state="press", where=(p, press["mould"], press["nth"]))
 
     def change(self, press):
         if self.rules[0] > 0:
@@ -63,7 +69,7 @@ class Model:
                 press["left"] -= 1
                 if press["left"] == 0:
                     if press["state"] == "cures":
-                        self.tyres[press["tyre"]]["state"] = "cured"
+                        self.tyres[press["tyre"]].update(state="cured", when=self.now + 1)
                         press["made"] += 1
                         self.moulds[press["mould"]]["made"] += 1
                     press["state"] = "idle"
@@ -90,13 +96,13 @@ class Model:
 
     def do_press(self):
         refuse(len(self.presses) >= 5, -28)
-        self.presses.append({"mould": None, "made": 0, "state": "idle", "left": 0, "tyre": None})
+        self.presses.append({"mould": None, "nth": 0, "made": 0, "state": "idle", "left": 0, "tyre": None})
         return len(self.presses) - 1
 
     def do_green(self, t):
         self.check(types=[t])
         refuse(len(self.tyres) >= 60, -28)
-        self.tyres.append({"type": t, "came": self.now, "state": "waits"})
+        self.tyres.append({"type": t, "came": self.now, "state": "waits", "where": (0, 0, 0), "when": 0})
         return len(self.tyres) - 1
 
     def do_fit(self, p, m):
@@ -114,7 +120,8 @@ class Model:
         press = self.presses[p]
         refuse(press["state"] != "idle", -16)
         refuse(press["made"] == 0, -17)
-        made, press["made"] = press["made"], 0
+        made = press["made"]
+        press.update(made=0, nth=press["nth"] + 1)
         self.change(press)
         return made
 
@@ -167,3 +174,108 @@ class Model:
             if tyre["type"] == t and tyre["state"] == "waits" and not self.is_old(tyre)
         ]
         return [len(these)] + these
+
+    def do_old(self):
+        these = [g for g, tyre in enumerate(self.tyres) if tyre["state"] == "waits" and self.is_old(tyre)]
+        return [len(these)] + these
+
+    def states(self):
+        return [one["state"] for one in self.presses + self.tyres]
+
+    def do_cured(self, g):
+        self.check(tyres=[g])
+        if self.tyres[g]["state"] == "cured":
+            return 0
+        other = copy.deepcopy(self)
+        for n in range(1, 1001):
+            before = other.states()
+            other.minute()
+            if other.tyres[g]["state"] == "cured":
+                return n
+            # All idle, and nothing loaded in a whole minute: nothing will be.
+            if other.states() == before and all(press["state"] == "idle" for press in other.presses):
+                break
+        raise Refused(-33)
+
+    def do_ahead(self, n):
+        refuse(not 1 <= n <= 500, -22)
+        other = copy.deepcopy(self)
+        more = other.do_minutes(n)[1]
+        return [more, other.do_old()[0], sum(press["state"] == "idle" for press in other.presses)]
+
+    def by_presses(self, t, k):
+        """In which minute each that waits is begun by k presses, and in how many minutes all are cured."""
+        left = self.do_waits(t)[1:]
+        begun = {}
+        at = self.now
+        while left:
+            refuse(k == 0, -33)
+            begun.update((g, at) for g in left[:k])
+            left = left[k:]
+            at += self.types[t][0]
+        return begun, at - self.now
+
+    def do_needs(self, t):
+        self.check(types=[t])
+        for k in (1, 2, 3, 4, 5):
+            begun = self.by_presses(t, k)[0]
+            if all(at <= self.tyres[g]["came"] + self.types[t][1] for g, at in begun.items()):
+                return k
+        raise Refused(-33)
+
+    def do_span(self, t, k):
+        self.check(types=[t])
+        refuse(k > 5, -22)
+        return self.by_presses(t, k)[1]
+
+    def do_share(self):
+        kinds = range(len(self.types))
+        takes = {}
+        for t in kinds:
+            has = sum(mould["type"] == t for mould in self.moulds)
+            for k in range(min(has, len(self.presses)) + 1):
+                if k > 0 or self.do_waits(t) == [0]:
+                    takes[(t, k)] = self.by_presses(t, k)[1]
+        ways = []
+        for way in itertools.product(range(len(self.presses) + 1), repeat=len(kinds)):
+            if sum(way) <= len(self.presses) and all((t, way[t]) in takes for t in kinds):
+                ways.append((max([takes[(t, way[t])] for t in kinds], default=0), way))
+        refuse(not ways, -33)
+        least, way = min(ways)
+        return [least, *way]
+
+    def cured_where(self, at):
+        these = [g for g, tyre in enumerate(self.tyres) if tyre["state"] == "cured" and at(*tyre["where"])]
+        return [len(these)] + these
+
+    def do_by(self, m):
+        self.check(moulds=[m])
+        return self.cured_where(lambda press, mould, nth: mould == m)
+
+    def do_within(self, p, n):
+        self.check(presses=[p])
+        return self.cured_where(lambda press, mould, nth: (press, nth) == (p, n))
+
+    def do_look(self, p):
+        self.check(presses=[p])
+        press = self.presses[p]
+        mould = 0 if press["mould"] is None else press["mould"] + 1
+        tyre = press["tyre"] + 1 if press["state"] == "cures" else 0
+        number = ("idle", "changed", "cures").index(press["state"])
+        return [number, mould, press["made"], press["nth"], press["left"], tyre]
+
+    def do_mouldat(self, m):
+        self.check(moulds=[m])
+        places = [p + 1 for p, press in enumerate(self.presses) if press["mould"] == m]
+        return [self.moulds[m]["type"], self.moulds[m]["made"], places[0] if places else 0]
+
+    def do_tyre(self, g):
+        self.check(tyres=[g])
+        tyre = self.tyres[g]
+        return [tyre["type"], tyre["came"], STATES.index(tyre["state"]), *tyre["where"], tyre["when"]]
+
+    def do_sums(self):
+        return [0] + [sum(tyre["state"] == state for tyre in self.tyres) for state in STATES]
+
+    def do_state(self):
+        return [self.now, len(self.types), len(self.moulds), len(self.presses), len(self.tyres), self.auto]

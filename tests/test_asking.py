@@ -1,4 +1,4 @@
-"""can and waits (point 3)."""
+"""can, waits and old (point 3)."""
 
 from tests.helper import MOST, SessionCase
 
@@ -63,4 +63,47 @@ class WaitsTest(SessionCase):
             (("begin", 0, 1, 1), 0), (("type", 1, 1), 0), (("press",), 0), (("green", 0), 0),
             (("waits", 0), (1, 0)), (("can", 0), -6), (("waits", 0), (1, 0)), (("can", 0), -6),
             (("minutes", 1), (1, 0)), (("waits", 0), (1, 0)),
+        )
+
+
+class OldTest(SessionCase):
+    def test_none(self):
+        self.session(
+            (("begin", 0, 1, 1), 0), (("old",), 0), (("type", 1, 0), 0), (("green", 0), 0), (("old",), 0),
+        )
+
+    def test_the_last_minute_of_waiting_is_not_too_old(self):
+        self.session(
+            (("begin", 0, 1, 1), 0), (("type", 1, 3), 0), (("green", 0), 0), (("minutes", 3), (3, 0)), (("old",), 0),
+            (("waits", 0), (1, 0)), (("minutes", 1), (4, 0)), (("old",), (1, 0)), (("waits", 0), 0),
+        )
+
+    def test_the_longest_wait(self):
+        self.session(
+            (("begin", 0, 1, 1), 0), (("type", 1, 10000), 0), (("green", 0), 0),
+            *[(("minutes", 500), (500 + 500 * number, 0)) for number in range(20)],
+            (("old",), 0), (("minutes", 1), (10001, 0)), (("old",), (1, 0)),
+        )
+
+    def test_of_all_types_and_rising(self):
+        self.session(
+            (("begin", 0, 1, 1), 0), (("type", 1, 0), 0), (("type", 1, 4), 1), (("type", 1, 1), 2),
+            (("green", 2), 0), (("green", 1), 1), (("green", 0), 2), (("green", 2), 3),
+            (("minutes", 1), (1, 0)), (("old",), (1, 2)), (("green", 0), 4),
+            (("minutes", 1), (2, 0)), (("old",), (4, 0, 2, 3, 4)),
+            (("minutes", 3), (5, 0)), (("old",), (5, 0, 1, 2, 3, 4)),
+        )
+
+    def test_those_that_wait_alone(self):
+        self.session(
+            (("begin", 0, 9, 9), 0), (("type", 2, 1), 0), (("mould", 0), 0), (("press",), 0), (("fit", 0, 0), 0),
+            *[(("green", 0), number) for number in range(4)], (("load", 0, 2), 2), (("minutes", 2), (2, 1)),
+            (("old",), (3, 0, 1, 3)), (("green", 0), 4), (("load", 0, 4), 4), (("scrap", 1), 0),
+            (("old",), (2, 0, 3)), (("minutes", 2), (4, 1)), (("old",), (2, 0, 3)),
+        )
+
+    def test_asking_changes_nothing(self):
+        self.session(
+            (("begin", 0, 1, 1), 0), (("type", 1, 0), 0), (("green", 0), 0), (("minutes", 1), (1, 0)),
+            (("old",), (1, 0)), (("old",), (1, 0)), (("state",), (1, 1, 0, 0, 1, 0)), (("sums",), (0, 1, 0, 0, 0)),
         )

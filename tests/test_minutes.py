@@ -77,8 +77,8 @@ class MinutesTest(SessionCase):
     def test_a_bladders_last_cure(self):
         self.session(
             *self.plant(bladder=2, presses=1), (("green", 0), 0), (("green", 0), 1), (("green", 0), 2),
-            (("auto", 1), 0), (("minutes", 40), (40, 2)), (("can", 0), -14), (("waits", 0), (1, 2)), (("bladder", 0), 2), (("can", 0), 0),
-            (("minutes", 3), (43, 1)),
+            (("auto", 1), 0), (("minutes", 40), (40, 2)), (("can", 0), -14), (("waits", 0), (1, 2)),
+            (("bladder", 0), 2), (("can", 0), 0), (("minutes", 3), (43, 1)),
         )
 
     def test_a_mould_that_is_dirty_just_when_it_is_idle(self):

@@ -4,9 +4,10 @@ from tyrepresses.plant import NOT_BEGUN, Plant
 from tyrepresses.adding import begin, answer_adding
 from tyrepresses.handling import answer_handling
 from tyrepresses.asking import answer_asking
+from tyrepresses.sharing import answer_sharing
+from tyrepresses.telling import answer_telling
 
-# How many numbers stand behind each call's own. The calls that aren't written yet are among them,
-# since they too answer that nothing has begun.
+# How many numbers stand behind each call's own.
 GIVEN = (3, 2, 1, 0, 1, 2, 1, 1, 2, 1, 1, 1, 1, 1, 0, 1, 1, 1, 2, 0, 1, 2, 1, 1, 1, 0, 0)
 
 
@@ -19,7 +20,11 @@ def answer_call(plant, number, given):
         return answer_adding(plant, number, given)
     if number <= 11:
         return answer_handling(plant, number, given)
-    return answer_asking(plant, number, given)
+    if number <= 16:
+        return answer_asking(plant, number, given)
+    if number <= 19:
+        return answer_sharing(plant, number, given)
+    return answer_telling(plant, number, given)
 
 
 def answers(calls):

@@ -2,9 +2,7 @@
 
 from tyrepresses.plant import NONE_SUCH, NOT_IDLE, ALREADY, OUT_OF_RANGE, CANNOT_BE, TOO_OLD
 from tyrepresses.plant import WAITS, PRESSED, CURED, SCRAPPED
-from tyrepresses.running import too_old, why_not, put_in, pass_minutes
-
-MOST_MINUTES = 500
+from tyrepresses.running import MOST_MINUTES, too_old, why_not, put_in, count_at, pass_minutes
 
 
 def fit(plant, p, m):
@@ -79,16 +77,12 @@ def set_auto(plant, b):
     return [before]
 
 
-def count_cured(plant):
-    return len([tyre for tyre in plant.tyres if tyre.stage == CURED])
-
-
 def minutes(plant, n):
     if n < 1 or n > MOST_MINUTES:
         return [OUT_OF_RANGE]
-    before = count_cured(plant)
+    before = count_at(plant, CURED)
     pass_minutes(plant, n)
-    return [plant.minute, count_cured(plant) - before]
+    return [plant.minute, count_at(plant, CURED) - before]
 
 
 def scrap(plant, g):

@@ -2,6 +2,9 @@
 
 from tyrepresses.plant import NOT_IDLE, NO_MOULD, WORN, DIRTY, WAITS, PRESSED, CURED
 
+# How many minutes may go by, or be looked ahead, in one call.
+MOST_MINUTES = 500
+
 
 def too_old(plant, tyre):
     return plant.minute - tyre.came > plant.kinds[tyre.kind].wait
@@ -11,6 +14,15 @@ def ready_tyres(plant, kind):
     """The numbers, rising, of the tyres of a kind that wait and aren't too old."""
     waiting = [g for g, tyre in enumerate(plant.tyres) if tyre.kind == kind and tyre.stage == WAITS]
     return [g for g in waiting if not too_old(plant, plant.tyres[g])]
+
+
+def old_tyres(plant):
+    """The numbers, rising, of the tyres that wait and are too old."""
+    return [g for g, tyre in enumerate(plant.tyres) if tyre.stage == WAITS and too_old(plant, tyre)]
+
+
+def count_at(plant, stage):
+    return len([tyre for tyre in plant.tyres if tyre.stage == stage])
 
 
 def why_not(plant, press):
