@@ -237,6 +237,19 @@ class StateTest(SessionCase):
 
 
 class AskingTest(SessionCase):
+    def test_the_greatest_number_of_each_and_one_above(self):
+        full = [(("begin", 0, 9, 9), 0)] + [(("type", 2, 9), number) for number in range(5)]
+        full += [(("mould", 4), number) for number in range(8)] + [(("press",), number) for number in range(5)]
+        full += [(("green", 4), number) for number in range(60)]
+        self.session(
+            *full, (("fit", 4, 7), 0), (("load", 4, 59), 2), (("minutes", 2), (2, 1)),
+            (("by", 7), (1, 59)), (("by", 8), -2), (("within", 4, 0), (1, 59)), (("within", 5, 0), -2),
+            (("look", 4), (0, 8, 1, 0, 0, 0)), (("look", 5), -2), (("mouldat", 7), (4, 1, 5)), (("mouldat", 8), -2),
+            (("tyre", 59), (4, 0, 2, 4, 7, 0, 2)), (("tyre", 60), -2), (("cured", 59), 0), (("cured", 60), -2),
+            (("needs", 4), -33), (("needs", 5), -2), (("span", 4, 5), 24), (("span", 5, 5), -2),
+            (("share",), (24, 0, 0, 0, 0, 5)), (("state",), (2, 5, 8, 5, 60, 0)), (("sums",), (0, 59, 0, 1, 0)),
+        )
+
     def test_asking_changes_nothing(self):
         asked = [("by", 0), ("by", 9), ("within", 0, 0), ("within", 1, MOST), ("within", 9, 0), ("sums",), ("state",)]
         asked += [("look", 0), ("look", 9), ("mouldat", 2), ("mouldat", 9), ("tyre", 0), ("tyre", 99)]
